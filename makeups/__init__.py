@@ -1,0 +1,1 @@
+"""Make-ups of old books and the formulas that tell them."""

@@ -1,0 +1,43 @@
+"""Rows of signs: what a gathering holds, place by place."""
+
+ALONE = 1
+LEAF_BEFORE = 2
+LEAF_BEHIND = 3
+STUB_BEFORE = 4
+STUB_BEHIND = 5
+
+MOST_PLACES = 21
+
+
+def may_be_partners(before, behind):
+    """Whether two signs may be paired: a leaf must be among them."""
+    return before != STUB_BEFORE or behind != STUB_BEHIND
+
+
+def is_gathering(row):
+    """Whether the row is short enough and its signs are paired."""
+    if len(row) > MOST_PLACES:
+        return False
+    waiting = []
+    for sign in row:
+        if sign in (LEAF_BEFORE, STUB_BEFORE):
+            waiting.append(sign)
+        elif sign in (LEAF_BEHIND, STUB_BEHIND):
+            if waiting == []:
+                return False
+            # Pairs never cross, so the partner is the last one that waits.
+            if not may_be_partners(waiting.pop(), sign):
+                return False
+        elif sign != ALONE:
+            return False
+    return waiting == []
+
+
+def count_leaves(row):
+    """How many places of the row hold a leaf."""
+    return len([sign for sign in row if sign in (ALONE, LEAF_BEFORE, LEAF_BEHIND)])
+
+
+def leaves_alone(count):
+    """A row of so many leaves alone."""
+    return [ALONE for k in range(count)]

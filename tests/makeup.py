@@ -1,0 +1,92 @@
+"""Make-ups as the tests hold them, their formulas and words, written apart from the program."""
+
+CAPITALS = "ABCDEFGHIKLMNOPQRSTVXYZ"
+SIGNS = CAPITALS + CAPITALS.lower() + "πχ*†"
+RAISED = str.maketrans("0123456789", "⁰¹²³⁴⁵⁶⁷⁸⁹")
+SIZES = (1, 2, 4, 6, 8, 10, 12, 14, 16, 18, 20)
+ROW_SIGNS = "|()[]"
+
+
+def chars(text):
+    return [ord(c) for c in text]
+
+
+def gathering(signature, size, lost=(), cut=(), put=None):
+    """A gathering of a make-up; signature as a text, put: what is put in, by its gap."""
+    return {"signature": signature, "size": size, "lost": set(lost), "cut": set(cut), "put": dict(put or {})}
+
+
+def signature(sign, times):
+    return (str(times) if times > 1 else "") + SIGNS[sign]
+
+
+def sign_and_times(text):
+    return SIGNS.index(text[-1]), int(text[:-1] or "1")
+
+
+def row_after(text):
+    """The rank of a letter's signature among those of its kind: (kind, rank), or None."""
+    sign, times = sign_and_times(text)
+    return None if sign > 45 else (sign // 23, (times - 1) * 23 + sign % 23)
+
+
+def comes_behind(before, behind):
+    first, second = row_after(before), row_after(behind)
+    return first is not None and second == (first[0], first[1] + 1)
+
+
+def notes(g):
+    told = []
+    for k in range(g["size"] + 1):
+        if k in g["lost"]:
+            told.append(f"−{k}")
+        if k in g["cut"]:
+            told.append(f"÷{k}")
+        if g["put"].get(k):
+            row = g["put"][k]
+            told.append(f"{k}+{len(row)}" if set(row) == {"|"} and len(row) < 10 else f"{k}+⟨{row}⟩")
+    return told
+
+
+def formula(makeup):
+    """The formula of a make-up: neighbours that belong together are drawn into one item."""
+    runs = []
+    for g in makeup:
+        last = runs[-1][-1] if runs else None
+        if (last and not notes(last) and not notes(g) and last["size"] == g["size"]
+                and comes_behind(last["signature"], g["signature"])):
+            runs[-1].append(g)
+        else:
+            runs.append([g])
+    told = []
+    for run in runs:
+        names = run[0]["signature"] + ("–" + run[-1]["signature"] if len(run) > 1 else "")
+        inside = ", ".join(notes(run[0]))
+        told.append(names + str(run[0]["size"]).translate(RAISED) + (f"({inside})" if inside else ""))
+    return " ".join(told)
+
+
+def word(g):
+    n = g["size"]
+    row = g["put"].get(0, "")
+    for k in range(1, n + 1):
+        partner = n + 1 - k
+        if k in g["lost"]:
+            own = ""
+        elif k in g["cut"]:
+            own = "[]"[k > n // 2]
+        elif n == 1 or partner in g["lost"]:
+            own = "|"
+        else:
+            own = "()"[k > n // 2]
+        row += own + g["put"].get(k, "")
+    return row
+
+
+def item_answer(makeup, i):
+    """What item must answer of gathering i of the make-up."""
+    rows = [word(g) for g in makeup]
+    leaves = [len(row) - row.count("[") - row.count("]") for row in rows]
+    sign, times = sign_and_times(makeup[i]["signature"])
+    return ([sign, times, makeup[i]["size"], leaves[i], len(rows[i]) - leaves[i], sum(leaves[:i]), len(rows[i])]
+            + [ROW_SIGNS.index(c) + 1 for c in rows[i]])
