@@ -1,39 +1,34 @@
 """The calls: what is asked of formulas, and the refusals."""
 
+from makeups.books import (ACCEPTED, NO_FORMULA, first_leaf, gathering_of_leaf, gathering_of_signature,
+                           read_book)
 from makeups.gatherings import word_of
-from makeups.reader import Fault
-from makeups.reading import read_formula
-from makeups.rows import count_leaves
+from makeups.reading import signature_of
+from makeups.rows import count_leaves, is_leaf, leaf_place, partners_of
 
-MOST_CHARACTERS = 16384
-
-TOO_LONG = -2
 NOT_THERE = -4
-NO_FORMULA = -6
+
+A_STUB = -1
 
 
 def judge(t):
     """How many gatherings the formula t has; of what is no formula, where it is at fault."""
-    if len(t) > MOST_CHARACTERS:
-        return [TOO_LONG]
-    try:
-        gatherings = read_formula(t)
-    except Fault as fault:
-        return [NO_FORMULA, fault.place]
-    return [len(gatherings)]
+    book = read_book(t)
+    if book.refusal == NO_FORMULA:
+        return [NO_FORMULA, book.place]
+    if book.refusal != ACCEPTED:
+        return [book.refusal]
+    return [len(book.gatherings)]
 
 
 def item(i, t):
     """Sign, times, size, leaves, stubs, first leaf, places and signs of gathering i of the formula t."""
-    if len(t) > MOST_CHARACTERS:
-        return [TOO_LONG]
-    try:
-        gatherings = read_formula(t)
-    except Fault:
-        return [NO_FORMULA]
-    if i >= len(gatherings):
+    book = read_book(t)
+    if book.refusal != ACCEPTED:
+        return [book.refusal]
+    if i >= len(book.gatherings):
         return [NOT_THERE]
-    return tell_gathering(gatherings, i)
+    return tell_gathering(book.gatherings, i)
 
 
 def tell_gathering(gatherings, i):
@@ -41,7 +36,42 @@ def tell_gathering(gatherings, i):
     signature = gatherings[i].signature
     word = word_of(gatherings[i])
     leaves = count_leaves(word)
-    first_leaf = sum([count_leaves(word_of(gathering)) for gathering in gatherings[:i]])
-    answer = [signature[0], signature[1], gatherings[i].size, leaves, len(word) - leaves, first_leaf, len(word)]
+    answer = [signature[0], signature[1], gatherings[i].size, leaves, len(word) - leaves]
+    answer.append(first_leaf(gatherings, i))
+    answer.append(len(word))
     answer.extend(word)
     return answer
+
+
+def find(t, s):
+    """Which gathering of the formula t has the signature that the text s tells."""
+    book = read_book(t)
+    if book.refusal != ACCEPTED:
+        return [book.refusal]
+    # What is no signature reads as None, which no gathering has.
+    i = gathering_of_signature(book.gatherings, signature_of(s))
+    if i < 0:
+        return [NOT_THERE]
+    return [i]
+
+
+def leaf(l, t):
+    """Gathering, number there, place there and partner's number of leaf l of the formula t."""
+    book = read_book(t)
+    if book.refusal != ACCEPTED:
+        return [book.refusal]
+    i = gathering_of_leaf(book.gatherings, l)
+    if i < 0:
+        return [NOT_THERE]
+    first = first_leaf(book.gatherings, i)
+    word = word_of(book.gatherings[i])
+    place = leaf_place(word, l - first)
+    return [i, l - first, place, partner_number(word, place, first)]
+
+
+def partner_number(word, place, first):
+    """The number in the book of the leaf's partner, of a word whose first leaf has the number first."""
+    partner = partners_of(word)[place]
+    if not is_leaf(word[partner]):
+        return A_STUB
+    return first + count_leaves(word[:partner])

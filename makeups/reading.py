@@ -3,7 +3,7 @@
 from makeups.characters import BLANK, DASH, DIGITS, OPEN, RAISED_DIGITS, position, signature_sign
 from makeups.gatherings import MOST_TIMES, Gathering, has_notes, is_size, signature_behind
 from makeups.notes import read_notes
-from makeups.reader import END, Reader, check
+from makeups.reader import END, Fault, Reader, check
 
 MOST_GATHERINGS = 48
 
@@ -78,6 +78,16 @@ def read_signature(reader):
     # Once is never told, and how many times is looked at behind the sign only.
     check(not told or 2 <= times <= MOST_TIMES, start)
     return (sign, times)
+
+
+def signature_of(text):
+    """The signature that the whole text tells, or None."""
+    reader = Reader(text)
+    try:
+        signature = read_signature(reader)
+    except Fault:
+        return None
+    return signature if reader.peek() == END else None
 
 
 def read_size(reader):

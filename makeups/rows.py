@@ -33,9 +33,33 @@ def is_gathering(row):
     return waiting == []
 
 
+def is_leaf(sign):
+    """Whether the sign is a leaf's, not a stub's."""
+    return sign in (ALONE, LEAF_BEFORE, LEAF_BEHIND)
+
+
 def count_leaves(row):
     """How many places of the row hold a leaf."""
-    return len([sign for sign in row if sign in (ALONE, LEAF_BEFORE, LEAF_BEHIND)])
+    return len([sign for sign in row if is_leaf(sign)])
+
+
+def leaf_place(row, number):
+    """The place of the leaf that has this number among the row's leaves, from 0."""
+    return [place for place in range(len(row)) if is_leaf(row[place])][number]
+
+
+def partners_of(row):
+    """For each place of a gathering the place of its partner: its own, if it is alone."""
+    partners = list(range(len(row)))
+    waiting = []
+    for place in range(len(row)):
+        if row[place] in (LEAF_BEFORE, STUB_BEFORE):
+            waiting.append(place)
+        elif row[place] in (LEAF_BEHIND, STUB_BEHIND):
+            before = waiting.pop()
+            partners[before] = place
+            partners[place] = before
+    return partners
 
 
 def leaves_alone(count):

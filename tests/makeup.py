@@ -90,3 +90,41 @@ def item_answer(makeup, i):
     sign, times = sign_and_times(makeup[i]["signature"])
     return ([sign, times, makeup[i]["size"], leaves[i], len(rows[i]) - leaves[i], sum(leaves[:i]), len(rows[i])]
             + [ROW_SIGNS.index(c) + 1 for c in rows[i]])
+
+
+def partner_place(row, place):
+    """The place of a sign's partner: the nearest one so that what stands between is paired within itself."""
+    if row[place] == "|":
+        return place
+    step = 1 if row[place] in "([" else -1
+    depth, k = 0, place
+    while True:
+        depth += {"(": 1, "[": 1, ")": -1, "]": -1, "|": 0}[row[k]]
+        if depth == 0:
+            return k
+        k += step
+
+
+def leaf_answers(makeup):
+    """What leaf must answer of each leaf of the make-up, in order."""
+    leaves = [(i, place) for i, g in enumerate(makeup) for place, c in enumerate(word(g)) if c in "|()"]
+    answers = []
+    for number, (i, place) in enumerate(leaves):
+        partner = (i, partner_place(word(makeup[i]), place))
+        first = min(k for k in range(len(leaves)) if leaves[k][0] == i)
+        answers.append([i, number - first, place, leaves.index(partner) if partner in leaves else -1])
+    return answers
+
+
+def mixed_gatherings(size):
+    """Every gathering of this size whose leaves are each whole, lost, cut, or whole with something behind."""
+    leaves = range(1, size + 1)
+    for number in range(4 ** size):
+        states = [0] + [number // 4 ** k % 4 for k in range(size)]
+        lost = [k for k in leaves if states[k] == 1]
+        cut = [k for k in leaves if states[k] == 2]
+        put = {k: ("|", "(]", "[)|")[k % 3] for k in leaves if states[k] == 3}
+        g = gathering("A", size, lost, cut, put)
+        wrong = size == 1 and cut or any(size + 1 - k in lost + cut for k in cut)
+        if not wrong and 0 < len(word(g)) <= 21:
+            yield g

@@ -5,10 +5,12 @@ import io
 import unittest
 
 from makeup import chars
-from makeups.formulas import item, judge
+from makeups.formulas import find, item, judge, leaf
 
 TEXTS = ("", "A⁸", "π² A–C⁸ D⁶(−2, 4+1) 2A¹ χ⁴(1+⟨(]⟩)", "A⁸ B⁸", "A⁸(÷1, −8)", "A²⁰(0+2)", "A–3B¹", "x" * 16384,
          "A" * 16385, "A⁸(0+⟨" + "(" * 16378)
+NUMBERS = (0, 3, 34, 47, 2147483647)
+SIGNATURES = ("", "A", "2A", "1A", "AA", "J", "9" * 64)
 
 
 class Frozen(list):
@@ -21,33 +23,47 @@ class Frozen(list):
     __setitem__ = __delitem__ = __iadd__ = __imul__ = refuse
 
 
+def all_calls():
+    """Calls and what they are handed, lists as tuples."""
+    for text in [tuple(chars(text)) for text in TEXTS]:
+        yield judge, (text,)
+        for number in NUMBERS:
+            yield item, (number, text)
+            yield leaf, (number, text)
+        for name in SIGNATURES:
+            yield find, (text, tuple(chars(name)))
+
+
+def handed_over(values, kind):
+    return [kind(value) if isinstance(value, tuple) else value for value in values]
+
+
 def all_answers(kind):
-    return [call for text in TEXTS
-            for call in [judge(kind(chars(text)))] + [item(i, kind(chars(text))) for i in (0, 3, 47, 2147483647)]]
+    return [call(*handed_over(values, kind)) for call, values in all_calls()]
 
 
 class Calls(unittest.TestCase):
     def test_what_is_handed_in_is_as_it_was(self):
-        for text in TEXTS:
-            handed = chars(text)
-            judge(handed)
-            self.assertEqual(handed, chars(text))
-            for i in (0, 6, 48):
-                item(i, handed)
-                self.assertEqual(handed, chars(text))
+        for call, values in all_calls():
+            handed = handed_over(values, list)
+            call(*handed)
+            self.assertEqual(handed, handed_over(values, list))
 
     def test_what_is_handed_in_is_not_changed_for_a_while_either(self):
         self.assertEqual(all_answers(Frozen), all_answers(list))
 
     def test_nothing_is_kept(self):
-        self.assertEqual(all_answers(list), all_answers(list))
+        forward = all_answers(list)
+        self.assertEqual(all_answers(list), forward)
+        backward = [call(*handed_over(values, list)) for call, values in reversed(list(all_calls()))]
+        self.assertEqual(backward, forward[::-1])
 
     def test_an_answer_is_the_callers_own(self):
-        text = chars("A⁸(4+⟨()⟩)")
-        answer = item(0, text)
-        expected = list(answer)
-        answer.clear()
-        self.assertEqual(item(0, text), expected)
+        for call, values in all_calls():
+            answer = call(*handed_over(values, list))
+            expected = list(answer)
+            answer.clear()
+            self.assertEqual(call(*handed_over(values, list)), expected)
 
     def test_nothing_is_printed(self):
         out, errors = io.StringIO(), io.StringIO()
@@ -59,6 +75,11 @@ class Calls(unittest.TestCase):
         for answer in all_answers(list):
             self.assertIs(type(answer), list)
             self.assertTrue(all(type(number) is int for number in answer))
+
+    def test_a_refusal_stands_alone(self):
+        for (call, values), answer in zip(all_calls(), all_answers(list)):
+            if answer[0] < 0:
+                self.assertEqual(len(answer), 2 if call == judge and answer[0] == -6 else 1)
 
 
 if __name__ == "__main__":

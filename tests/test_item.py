@@ -2,7 +2,7 @@
 
 import unittest
 
-from makeup import SIZES, chars, formula, gathering, item_answer, signature, word
+from makeup import SIZES, chars, formula, gathering, item_answer, mixed_gatherings, signature
 from makeups.formulas import item
 
 BOOK = "π² A–C⁸ D⁶(−2, 4+1) 2A¹ χ⁴(1+⟨(]⟩)"
@@ -83,24 +83,13 @@ class Told(unittest.TestCase):
     def test_twenty_one_places(self):
         self.answers("A²⁰(20+1)", 0, 0, 1, 20, 21, 0, 0, 21, *[2] * 10, *[3] * 10, 1)
 
-    def test_every_way_to_lose_and_cut_leaves_of_sizes_two_to_six(self):
-        for size in (2, 4, 6):
-            for number in range(4 ** size):
-                self.agrees_of(size, [number // 4 ** k % 4 for k in range(size)])
-
-    def agrees_of(self, size, states):
-        """States of the leaves: 0 and 3 whole (behind 3 something is put in), 1 lost, 2 cut."""
-        leaves = range(1, size + 1)
-        lost = [k for k in leaves if states[k - 1] == 1]
-        cut = [k for k in leaves if states[k - 1] == 2]
-        put = {k: ("|", "(]", "[)|")[k % 3] for k in leaves if states[k - 1] == 3}
-        if len(lost) == size or any(size + 1 - k in lost + cut for k in cut):
-            return
-        makeup = [gathering("π", 2), gathering("A", size, lost, cut, put), gathering("B", 2)]
-        if len(word(makeup[1])) <= 21:
-            text = formula(makeup)
-            for i in range(3):
-                self.assertEqual(item(i, chars(text)), item_answer(makeup, i), text)
+    def test_every_way_to_lose_and_cut_leaves_of_sizes_one_to_six(self):
+        for size in (1, 2, 4, 6):
+            for g in mixed_gatherings(size):
+                makeup = [gathering("π", 2), g, gathering("B", 2)]
+                text = formula(makeup)
+                for i in range(3):
+                    self.assertEqual(item(i, chars(text)), item_answer(makeup, i), text)
 
 
 class Refused(unittest.TestCase):
