@@ -40,6 +40,18 @@ def signature_sign(character):
     return -1
 
 
+def signature_character(sign):
+    """The character of a signature's sign, 0 to 49."""
+    if sign < len(LETTERS):
+        return ord(LETTERS[sign])
+    return OTHER_SIGNATURE_SIGNS[sign - len(LETTERS)]
+
+
 def row_sign(character):
     """The number of a row's sign, 1 to 5, or 0."""
     return position(ROW_SIGNS, character) + 1
+
+
+def row_character(sign):
+    """The character of a row's sign, 1 to 5."""
+    return ROW_SIGNS[sign - 1]

@@ -2,11 +2,14 @@
 
 from makeups.books import (ACCEPTED, NO_FORMULA, first_leaf, gathering_of_leaf, gathering_of_signature,
                            read_book)
-from makeups.gatherings import word_of
+from makeups.changes import change_leaf
+from makeups.gatherings import CUT, LOST, word_of
 from makeups.reading import signature_of
 from makeups.rows import count_leaves, is_leaf, leaf_place, partners_of
+from makeups.writing import write_formula
 
 NOT_THERE = -4
+NOTHING_LEFT = -5
 
 A_STUB = -1
 
@@ -75,3 +78,35 @@ def partner_number(word, place, first):
     if not is_leaf(word[partner]):
         return A_STUB
     return first + count_leaves(word[:partner])
+
+
+def lose(l, t):
+    """The formula t with leaf l lost: how many characters, then these."""
+    return answer_change(l, t, LOST)
+
+
+def cut(l, t):
+    """The formula t with leaf l cut: how many characters, then these."""
+    return answer_change(l, t, CUT)
+
+
+def answer_change(l, t, state):
+    """What lose and cut answer: the formula of what is left."""
+    book = read_book(t)
+    if book.refusal != ACCEPTED:
+        return [book.refusal]
+    i = gathering_of_leaf(book.gatherings, l)
+    if i < 0:
+        return [NOT_THERE]
+    number = l - first_leaf(book.gatherings, i)
+    change_leaf(book.gatherings[i], leaf_place(word_of(book.gatherings[i]), number), state)
+    left = [gathering for gathering in book.gatherings if count_leaves(word_of(gathering)) > 0]
+    if left == []:
+        return [NOTHING_LEFT]
+    return tell_formula(left)
+
+
+def tell_formula(gatherings):
+    """A formula as it is answered: how many characters, then these."""
+    text = write_formula(gatherings)
+    return [len(text)] + text

@@ -47,9 +47,26 @@ def has_notes(gathering):
     return any([state != WHOLE for state in gathering.states]) or any([row != [] for row in gathering.gaps])
 
 
+def are_one_item(before, behind):
+    """Whether two gatherings, one behind the other, stand in one item of the formula."""
+    if has_notes(before) or has_notes(behind) or before.size != behind.size:
+        return False
+    return signature_behind(before.signature) == behind.signature
+
+
+def partner_of(gathering, k):
+    """The partner of leaf k (of size 1: itself)."""
+    return gathering.size + 1 - k
+
+
 def partner_state(gathering, k):
     """Whether the partner of leaf k is whole, lost or cut (of size 1: itself)."""
-    return gathering.states[gathering.size + 1 - k]
+    return gathering.states[partner_of(gathering, k)]
+
+
+def may_be_cut(gathering, k):
+    """Whether a whole leaf k leaves a stub when it is cut."""
+    return gathering.size > 1 and partner_state(gathering, k) == WHOLE
 
 
 def leaf_row(gathering, k):

@@ -2,11 +2,9 @@
 
 from makeups.characters import (ANGLE_CLOSE, ANGLE_OPEN, BLANK, CLOSE, COMMA, DIGITS, DIVIDED, MINUS, OPEN, PLUS,
                                 row_sign)
-from makeups.gatherings import CUT, LOST, WHOLE, partner_state, word_of
+from makeups.gatherings import CUT, LOST, may_be_cut, partner_state, word_of
 from makeups.reader import check
-from makeups.rows import MOST_PLACES, count_leaves, is_gathering, leaves_alone
-
-MOST_COUNTED = 9
+from makeups.rows import MOST_COUNTED, MOST_PLACES, count_leaves, is_counted, is_gathering, leaves_alone
 
 
 def read_notes(reader, gathering):
@@ -52,7 +50,7 @@ def may_become(gathering, k, state):
     """Whether leaf k may be lost or cut beside what its partner is."""
     if state == LOST:
         return partner_state(gathering, k) != CUT
-    return gathering.size > 1 and partner_state(gathering, k) == WHOLE
+    return may_be_cut(gathering, k)
 
 
 def read_gap_note(reader, gathering, rank_before):
@@ -86,6 +84,5 @@ def read_told_row(reader, start):
         reader.advance()
         sign = row_sign(reader.peek())
     reader.expect(ANGLE_CLOSE)
-    check(row != [] and is_gathering(row), start)
-    check(len(row) > MOST_COUNTED or row != leaves_alone(len(row)), start)
+    check(row != [] and is_gathering(row) and not is_counted(row), start)
     return row

@@ -1,7 +1,7 @@
 """Reading of a formula, item by item, into the gatherings of its make-up."""
 
 from makeups.characters import BLANK, DASH, DIGITS, OPEN, RAISED_DIGITS, position, signature_sign
-from makeups.gatherings import MOST_TIMES, Gathering, has_notes, is_size, signature_behind
+from makeups.gatherings import MOST_TIMES, Gathering, are_one_item, is_size, signature_behind
 from makeups.notes import read_notes
 from makeups.reader import END, Fault, Reader, check
 
@@ -28,15 +28,8 @@ def read_item(reader, before):
         check(len(own) == 1, reader.place)
         read_notes(reader, own[0])
     else:
-        check(before == [] or not belongs_to(before[-1], own[0]), start)
+        check(before == [] or not are_one_item(before[-1], own[0]), start)
     return own
-
-
-def belongs_to(last, gathering):
-    """Whether a gathering without notes must stand in one item with the last one before it."""
-    if has_notes(last) or last.size != gathering.size:
-        return False
-    return signature_behind(last.signature) == gathering.signature
 
 
 def read_signatures(reader, taken):

@@ -7,6 +7,7 @@ STUB_BEFORE = 4
 STUB_BEHIND = 5
 
 MOST_PLACES = 21
+MOST_COUNTED = 9
 
 
 def may_be_partners(before, behind):
@@ -65,3 +66,31 @@ def partners_of(row):
 def leaves_alone(count):
     """A row of so many leaves alone."""
     return [ALONE for k in range(count)]
+
+
+def is_counted(row):
+    """Whether a formula tells the row by how many leaves alone it has."""
+    return 1 <= len(row) <= MOST_COUNTED and row == leaves_alone(len(row))
+
+
+def lose_from(row, place):
+    """The gathering with the leaf at the place lost."""
+    partner = partners_of(row)[place]
+    left = list(row)
+    gone = [place]
+    if is_leaf(row[partner]):
+        # A leaf alone is its own partner, so this changes nothing that stays.
+        left[partner] = ALONE
+    else:
+        gone.append(partner)
+    return [left[k] for k in range(len(left)) if k not in gone]
+
+
+def cut_from(row, place):
+    """The gathering with the leaf at the place cut."""
+    partner = partners_of(row)[place]
+    if partner == place or not is_leaf(row[partner]):
+        return lose_from(row, place)
+    left = list(row)
+    left[place] = STUB_BEFORE if place < partner else STUB_BEHIND
+    return left

@@ -6,6 +6,10 @@ RAISED = str.maketrans("0123456789", "⁰¹²³⁴⁵⁶⁷⁸⁹")
 SIZES = (1, 2, 4, 6, 8, 10, 12, 14, 16, 18, 20)
 ROW_SIGNS = "|()[]"
 
+# Texts that every call refuses: with -6, with -2.
+NO_FORMULAS = ("", "A", "A⁷", "1A⁸", "A⁸ A⁸", "A⁸ B⁸", "A⁸(−9)", "A¹(−1)", "A²⁰(0+2)", "A⁸x", "A–3C⁸", "A" * 16384)
+TOO_LONG = ("A" * 16385, "A⁸(0+⟨" + "|" * 16379, " " * 32768)
+
 
 def chars(text):
     return [ord(c) for c in text]
@@ -128,3 +132,56 @@ def mixed_gatherings(size):
         wrong = size == 1 and cut or any(size + 1 - k in lost + cut for k in cut)
         if not wrong and 0 < len(word(g)) <= 21:
             yield g
+
+
+def changed_row(row, place, is_cut):
+    """The row with the leaf at the place lost or cut."""
+    partner, signs = partner_place(row, place), list(row)
+    if partner == place or row[partner] in "[]":
+        signs[place] = signs[partner] = ""
+    elif is_cut:
+        signs[place] = {"(": "[", ")": "]"}[row[place]]
+    else:
+        signs[place], signs[partner] = "", "|"
+    return "".join(signs)
+
+
+def leaves_of(g):
+    """Of each leaf of the gathering, in order: leaf k as (k, None), what's put in at gap k as (k, its place there)."""
+    leaves = []
+    for k in range(g["size"] + 1):
+        if k > 0 and k not in g["lost"] | g["cut"]:
+            leaves.append((k, None))
+        leaves += [(k, place) for place, c in enumerate(g["put"].get(k, "")) if c in "|()"]
+    return leaves
+
+
+def copied(makeup):
+    return [gathering(**g) for g in makeup]
+
+
+def changed_makeup(makeup, number, is_cut):
+    """The make-up with the leaf of that number lost or cut."""
+    makeup = copied(makeup)
+    g, (k, place) = [(g, leaf) for g in makeup for leaf in leaves_of(g)][number]
+    partner = g["size"] + 1 - k
+    if place is not None:
+        g["put"][k] = changed_row(g["put"][k], place, is_cut)
+    elif is_cut and g["size"] > 1 and partner not in g["lost"] | g["cut"]:
+        g["cut"].add(k)
+    else:
+        g["lost"] |= {k, partner} if partner in g["cut"] else {k}
+        g["cut"] -= {partner}
+    return [g for g in makeup if word(g)]
+
+
+def text_of(answer):
+    """The formula that was answered, as a text; its length must be right."""
+    if answer[0] != len(answer) - 1:
+        raise AssertionError(f"not a formula's answer: {answer}")
+    return "".join(map(chr, answer[1:]))
+
+
+def book(*gatherings):
+    """A make-up in which the gatherings stand between others."""
+    return [gathering("π", 2, cut=[1]), *gatherings, gathering("B", 2), gathering("χ", 1, put={0: "(]"})]

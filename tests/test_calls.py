@@ -5,9 +5,9 @@ import io
 import unittest
 
 from makeup import chars
-from makeups.formulas import find, item, judge, leaf
+from makeups.formulas import cut, find, item, judge, leaf, lose
 
-TEXTS = ("", "A⁸", "π² A–C⁸ D⁶(−2, 4+1) 2A¹ χ⁴(1+⟨(]⟩)", "A⁸ B⁸", "A⁸(÷1, −8)", "A²⁰(0+2)", "A–3B¹", "x" * 16384,
+TEXTS = ("", "A¹", "A⁸", "π² A–C⁸ D⁶(−2, 4+1) 2A¹ χ⁴(1+⟨(]⟩)", "A⁸ B⁸", "A⁸(÷1, −8)", "A²⁰(0+2)", "A–3B¹", "x" * 16384,
          "A" * 16385, "A⁸(0+⟨" + "(" * 16378)
 NUMBERS = (0, 3, 34, 47, 2147483647)
 SIGNATURES = ("", "A", "2A", "1A", "AA", "J", "9" * 64)
@@ -28,8 +28,8 @@ def all_calls():
     for text in [tuple(chars(text)) for text in TEXTS]:
         yield judge, (text,)
         for number in NUMBERS:
-            yield item, (number, text)
-            yield leaf, (number, text)
+            for call in (item, leaf, lose, cut):
+                yield call, (number, text)
         for name in SIGNATURES:
             yield find, (text, tuple(chars(name)))
 

@@ -2,7 +2,7 @@
 
 import unittest
 
-from makeup import SIGNS, chars, signature
+from makeup import NO_FORMULAS, SIGNS, TOO_LONG, chars, signature
 from makeups.formulas import find
 
 BOOK = "π² A–C⁸ D⁶(−2, 4+1) 2A¹ χ⁴(1+⟨(]⟩)"
@@ -82,12 +82,12 @@ class Refused(unittest.TestCase):
             self.assertEqual([k for k in numbers if find(text, [k]) != [-4]], sorted(chars(signs)))
 
     def test_no_formula(self):
-        for text in ("", "A", "A⁷", "1A⁸", "A⁸ A⁸", "A⁸ B⁸", "A⁸(−9)", "A¹(−1)", "A²⁰(0+2)", "A⁸x", "A–3C⁸", "A" * 16384):
+        for text in NO_FORMULAS:
             for s in ("A", "B", "χ") + NO_SIGNATURES:
                 self.refuses(text, s, -6)
 
     def test_too_long(self):
-        for text in ("A" * 16385, "A⁸(0+⟨" + "|" * 16379, " " * 32768):
+        for text in TOO_LONG:
             for s in ("A", "B") + NO_SIGNATURES[:6]:
                 self.refuses(text, s, -2)
 
