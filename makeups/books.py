@@ -2,7 +2,7 @@
 
 from makeups.gatherings import word_of
 from makeups.reader import Fault
-from makeups.reading import read_formula
+from makeups.reading import MOST_GATHERINGS, read_formula
 from makeups.rows import count_leaves
 
 MOST_CHARACTERS = 16384
@@ -53,3 +53,15 @@ def gathering_of_signature(gatherings, signature):
         if gatherings[i].signature == signature:
             return i
     return -1
+
+
+def is_order(numbers, count):
+    """Whether a make-up may be made of those of count gatherings that have these numbers."""
+    if numbers == [] or len(numbers) > MOST_GATHERINGS:
+        return False
+    seen = {}
+    for number in numbers:
+        if number >= count or number in seen:
+            return False
+        seen[number] = True
+    return True

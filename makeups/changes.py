@@ -1,4 +1,4 @@
-"""Changes of a gathering: a leaf of its word is lost or cut."""
+"""Changes of a gathering: a leaf of its word is lost or cut, or something is put in."""
 
 from makeups.gatherings import CUT, LOST, may_be_cut, partner_of, partner_state
 from makeups.rows import cut_from, lose_from
@@ -41,3 +41,8 @@ def lose_own_leaf(gathering, k):
     if partner_state(gathering, k) == CUT:
         gathering.states[partner_of(gathering, k)] = LOST
     gathering.states[k] = LOST
+
+
+def put_in(gathering, k, row):
+    """Puts the row in at gap k, behind what is there."""
+    gathering.gaps[k] = gathering.gaps[k] + row

@@ -1,13 +1,15 @@
 """The calls: what is asked of formulas, and the refusals."""
 
-from makeups.books import (ACCEPTED, NO_FORMULA, first_leaf, gathering_of_leaf, gathering_of_signature,
+from makeups.books import (ACCEPTED, NO_FORMULA, first_leaf, gathering_of_leaf, gathering_of_signature, is_order,
                            read_book)
-from makeups.changes import change_leaf
+from makeups.changes import change_leaf, put_in
 from makeups.gatherings import CUT, LOST, word_of
 from makeups.reading import signature_of
-from makeups.rows import count_leaves, is_leaf, leaf_place, partners_of
+from makeups.rows import MOST_PLACES, count_leaves, is_gathering, is_leaf, leaf_place, partners_of
 from makeups.writing import write_formula
 
+NOT_RIGHT = -1
+TOO_MANY_PLACES = -3
 NOT_THERE = -4
 NOTHING_LEFT = -5
 
@@ -104,6 +106,31 @@ def answer_change(l, t, state):
     if left == []:
         return [NOTHING_LEFT]
     return tell_formula(left)
+
+
+def put(i, k, t, g):
+    """The formula t with g put in at gap k of gathering i: how many characters, then these."""
+    book = read_book(t)
+    if book.refusal != ACCEPTED:
+        return [book.refusal]
+    if g == [] or not is_gathering(g):
+        return [NOT_RIGHT]
+    if i >= len(book.gatherings) or k > book.gatherings[i].size:
+        return [NOT_THERE]
+    if len(word_of(book.gatherings[i])) + len(g) > MOST_PLACES:
+        return [TOO_MANY_PLACES]
+    put_in(book.gatherings[i], k, g)
+    return tell_formula(book.gatherings)
+
+
+def bind(t, order):
+    """The formula of those gatherings of the formula t in that order: how many characters, then these."""
+    book = read_book(t)
+    if book.refusal != ACCEPTED:
+        return [book.refusal]
+    if not is_order(order, len(book.gatherings)):
+        return [NOT_RIGHT]
+    return tell_formula([book.gatherings[i] for i in order])
 
 
 def tell_formula(gatherings):

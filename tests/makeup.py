@@ -93,7 +93,7 @@ def item_answer(makeup, i):
     leaves = [len(row) - row.count("[") - row.count("]") for row in rows]
     sign, times = sign_and_times(makeup[i]["signature"])
     return ([sign, times, makeup[i]["size"], leaves[i], len(rows[i]) - leaves[i], sum(leaves[:i]), len(rows[i])]
-            + [ROW_SIGNS.index(c) + 1 for c in rows[i]])
+            + signs(rows[i]))
 
 
 def partner_place(row, place):
@@ -173,6 +173,18 @@ def changed_makeup(makeup, number, is_cut):
         g["lost"] |= {k, partner} if partner in g["cut"] else {k}
         g["cut"] -= {partner}
     return [g for g in makeup if word(g)]
+
+
+def put_makeup(makeup, i, k, row):
+    """The make-up with the row put in at gap k of gathering i."""
+    makeup = copied(makeup)
+    makeup[i]["put"][k] = makeup[i]["put"].get(k, "") + row
+    return makeup
+
+
+def signs(row):
+    """The row as its signs' numbers."""
+    return [ROW_SIGNS.index(c) + 1 for c in row]
 
 
 def text_of(answer):

@@ -5,12 +5,14 @@ import io
 import unittest
 
 from makeup import chars
-from makeups.formulas import cut, find, item, judge, leaf, lose
+from makeups.formulas import bind, cut, find, item, judge, leaf, lose, put
 
 TEXTS = ("", "A¹", "A⁸", "π² A–C⁸ D⁶(−2, 4+1) 2A¹ χ⁴(1+⟨(]⟩)", "A⁸ B⁸", "A⁸(÷1, −8)", "A²⁰(0+2)", "A–3B¹", "x" * 16384,
          "A" * 16385, "A⁸(0+⟨" + "(" * 16378)
 NUMBERS = (0, 3, 34, 47, 2147483647)
 SIGNATURES = ("", "A", "2A", "1A", "AA", "J", "9" * 64)
+ROWS = ((), (1,), (2, 3), (2, 2, 5, 3, 1), (4, 5), (6,), (1,) * 20, (1,) * 22, (2,) * 64)
+ORDERS = ((), (0,), (0, 1, 2, 3, 4, 5, 6), (6, 2, 3), (1, 1), (48,), tuple(range(64)))
 
 
 class Frozen(list):
@@ -32,6 +34,11 @@ def all_calls():
                 yield call, (number, text)
         for name in SIGNATURES:
             yield find, (text, tuple(chars(name)))
+        for row in ROWS:
+            for i, k in ((0, 0), (4, 4), (0, 9), (9, 0)):
+                yield put, (i, k, text, row)
+        for order in ORDERS:
+            yield bind, (text, order)
 
 
 def handed_over(values, kind):

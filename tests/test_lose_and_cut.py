@@ -2,9 +2,10 @@
 
 import unittest
 
-from makeup import (NO_FORMULAS, ROW_SIGNS, TOO_LONG, book, changed_makeup, changed_row, chars, formula, gathering,
+from asked import told_gatherings
+from makeup import (NO_FORMULAS, TOO_LONG, book, changed_makeup, changed_row, chars, formula, gathering,
                     mixed_gatherings, text_of, word)
-from makeups.formulas import cut, item, judge, leaf, lose
+from makeups.formulas import cut, leaf, lose
 
 BOOK = "π² A–C⁸ D⁶(−2, 4+1) 2A¹ χ⁴(1+⟨(]⟩)"
 CALLS = (lose, cut)
@@ -173,20 +174,10 @@ class Every(unittest.TestCase):
             for call in CALLS:
                 answer = call(number, text)
                 self.assertEqual(text_of(answer), formula(changed_makeup(makeup, number, call == cut)), formula(makeup))
+                expected = told_gatherings(text)
                 row = changed_row(rows[i], place, call == cut)
-                self.are_words(answer[1:], rows[:i] + ([row] if row else []) + rows[i + 1:])
-                self.others_stay(text, answer[1:], i, row == "")
-
-    def are_words(self, text, rows):
-        self.assertEqual(judge(text), [len(rows)])
-        told = [item(k, text)[7:] for k in range(len(rows))]
-        self.assertEqual(told, [[ROW_SIGNS.index(c) + 1 for c in row] for row in rows])
-
-    def others_stay(self, before, behind, i, is_gone):
-        for k in range(judge(before)[0]):
-            if k != i or not is_gone:
-                other = item(k - 1 if is_gone and k > i else k, behind)
-                self.assertEqual(other[:3], item(k, before)[:3])
+                expected[i:i + 1] = [(expected[i][0], row)] if row else []
+                self.assertEqual(told_gatherings(answer[1:]), expected)
 
     def test_every_gathering_of_sizes_one_and_two(self):
         for size in (1, 2):
