@@ -1,7 +1,7 @@
 """The calls: what is asked of formulas, and the refusals."""
 
-from makeups.books import (ACCEPTED, NO_FORMULA, first_leaf, gathering_of_leaf, gathering_of_signature, is_order,
-                           read_book)
+from makeups.books import (ACCEPTED, NO_FORMULA, TOO_LONG, first_leaf, gathering_of_leaf, gathering_of_signature,
+                           is_order, read_book)
 from makeups.changes import change_leaf, put_in
 from makeups.gatherings import CUT, LOST, word_of
 from makeups.reading import signature_of
@@ -131,6 +131,23 @@ def bind(t, order):
     if not is_order(order, len(book.gatherings)):
         return [NOT_RIGHT]
     return tell_formula([book.gatherings[i] for i in order])
+
+
+def alike(t, u):
+    """1 if the formulas t and u tell the same words, gathering by gathering, else 0."""
+    books = [read_book(t), read_book(u)]
+    # Too long stands before no formula, whichever of the two texts it is.
+    for refusal in (TOO_LONG, NO_FORMULA):
+        if refusal in [book.refusal for book in books]:
+            return [refusal]
+    if words_of(books[0].gatherings) == words_of(books[1].gatherings):
+        return [1]
+    return [0]
+
+
+def words_of(gatherings):
+    """The words of the gatherings, one by one."""
+    return [word_of(gathering) for gathering in gatherings]
 
 
 def tell_formula(gatherings):

@@ -2,10 +2,11 @@
 
 import contextlib
 import io
+import random
 import unittest
 
 from makeup import chars
-from makeups.formulas import bind, cut, find, item, judge, leaf, lose, put
+from makeups.formulas import alike, bind, cut, find, item, judge, leaf, lose, put
 
 TEXTS = ("", "A¹", "A⁸", "π² A–C⁸ D⁶(−2, 4+1) 2A¹ χ⁴(1+⟨(]⟩)", "A⁸ B⁸", "A⁸(÷1, −8)", "A²⁰(0+2)", "A–3B¹", "x" * 16384,
          "A" * 16385, "A⁸(0+⟨" + "(" * 16378)
@@ -13,6 +14,7 @@ NUMBERS = (0, 3, 34, 47, 2147483647)
 SIGNATURES = ("", "A", "2A", "1A", "AA", "J", "9" * 64)
 ROWS = ((), (1,), (2, 3), (2, 2, 5, 3, 1), (4, 5), (6,), (1,) * 20, (1,) * 22, (2,) * 64)
 ORDERS = ((), (0,), (0, 1, 2, 3, 4, 5, 6), (6, 2, 3), (1, 1), (48,), tuple(range(64)))
+OTHERS = ("", "B¹", "π² A–C⁸ E⁶(−2, 4+1) 2B¹ χ⁴(1+⟨(]⟩)", "A⁸ B⁸", "A" * 16385)
 
 
 class Frozen(list):
@@ -39,6 +41,9 @@ def all_calls():
                 yield put, (i, k, text, row)
         for order in ORDERS:
             yield bind, (text, order)
+        for other in OTHERS:
+            yield alike, (text, tuple(chars(other)))
+            yield alike, (tuple(chars(other)), text)
 
 
 def handed_over(values, kind):
@@ -64,6 +69,25 @@ class Calls(unittest.TestCase):
         self.assertEqual(all_answers(list), forward)
         backward = [call(*handed_over(values, list)) for call, values in reversed(list(all_calls()))]
         self.assertEqual(backward, forward[::-1])
+
+    def test_calls_in_any_order_answer_as_if_each_were_the_first(self):
+        first = list(zip(all_calls(), all_answers(list)))
+        for seed in range(3):
+            random.Random(seed).shuffle(first)
+            for (call, values), answer in first:
+                self.assertEqual(call(*handed_over(values, list)), answer)
+
+    def test_one_list_may_be_handed_in_twice(self):
+        for text in TEXTS:
+            for kind in (list, Frozen):
+                handed = kind(chars(text))
+                self.assertEqual(alike(handed, handed), alike(chars(text), chars(text)))
+                self.assertEqual(handed, chars(text))
+        for numbers in ([1], [2, 3], [0], [65], []):
+            handed = Frozen(numbers)
+            self.assertEqual(find(handed, handed), [-6])
+            self.assertEqual(bind(handed, handed), [-6])
+            self.assertEqual(put(0, 0, handed, handed), [-6])
 
     def test_an_answer_is_the_callers_own(self):
         for call, values in all_calls():
